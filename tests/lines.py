@@ -57,9 +57,38 @@ def trusted():
     return [5]
 
 
+def bar(i):
+    return [6, i]
+
+
+def free(i):
+    return [7, i]
+
+
+def soonest(i):
+    return [8, i]
+
+
+def trim(f):
+    return [9, f]
+
+
+def log(k):
+    return [10, k]
+
+
+def totals():
+    return [11]
+
+
 def look(n):
     """All that the calls value, sensor and trusted show of n sensors."""
     return [value(), trusted()] + [sensor(i) for i in range(n)]
+
+
+def look_at_all(n):
+    """All that any call shows of n sensors without changing them; of the events the first fifty."""
+    return look(n) + [soonest(i) for i in range(n)] + [trim(f) for f in range(5)] + [log(0), totals()]
 
 
 def split(numbers):

@@ -1,6 +1,7 @@
 """The package's files keep to the part of Python that can be looked at by a test (LANGUAGE.md, by rule)."""
 
 import ast
+import builtins
 import pathlib
 import re
 import unittest
@@ -47,6 +48,11 @@ def bound_names(node):
     if isinstance(node, ast.Attribute):
         return [node.attr]
     return []
+
+
+def top_names(tree):
+    targets = [node.targets[0] for node in tree.body if isinstance(node, ast.Assign)]
+    return [found for node in tree.body + targets for found in bound_names(node)]
 
 
 def is_plain(node):
@@ -119,9 +125,25 @@ class Language(unittest.TestCase):
             for node in imports:
                 self.assertEqual(node.level, 0, name)
                 source = ast.parse((FOLDER / (node.module.split(".")[1] + ".py")).read_text("ascii"))
-                defined = [found for part in source.body for found in bound_names(part)]
                 for part in node.names:
-                    self.assertIn(part.name, defined, name)
+                    self.assertIn(part.name, top_names(source), name)
+
+    def test_each_name_of_a_top_is_bound_once(self):
+        for name, tree in trees():
+            imported = [part.name for node in tree.body if isinstance(node, ast.ImportFrom) for part in node.names]
+            names = top_names(tree) + imported
+            self.assertEqual(sorted(names), sorted(set(names)), name)
+
+    def test_no_parameter_or_local_is_called_like_a_class_or_an_import_or_a_name_of_python(self):
+        for name, tree in trees():
+            taken = [part.name for node in tree.body if isinstance(node, ast.ImportFrom) for part in node.names]
+            taken += [node.name for node in tree.body if isinstance(node, ast.ClassDef)] + dir(builtins)
+            for top in tree.body:
+                if isinstance(top, (ast.FunctionDef, ast.ClassDef)):
+                    for node in ast.walk(top):
+                        if isinstance(node, (ast.arg, ast.Name)):
+                            for found in bound_names(node):
+                                self.assertNotIn(found, taken, (name, node.lineno))
 
     def test_names(self):
         kept = OWN_OF_PYTHON + list(DUNDERS)

@@ -2,7 +2,7 @@
 
 import unittest
 
-from tests.lines import ask, last, lay, look, sample, sensor, trusted, value
+from tests.lines import ask, bar, free, last, lay, look, look_at_all, sample, sensor, trusted, value
 
 RANGES = {"n": (3, 9), "tol": (0, 10 ** 9), "p": (1, 100), "q": (1, 100), "rate": (0, 10 ** 9)}
 FAR = 10 ** 18
@@ -27,7 +27,7 @@ class LayRanges(unittest.TestCase):
 
     def test_beyond_a_range_changes_nothing_of_what_was_laid(self):
         start = [lay(n=3, tol=2, p=2, q=2, rate=1), sample(0, 0, 50), sample(4, 4, 50), sample(4, 4, 4)]
-        later = look(3) + [sample(9, 9, 9), sample(9, 9, 9)] + look(3)
+        later = look_at_all(3) + [sample(9, 9, 9), sample(9, 9, 9)] + look_at_all(3)
         untouched = ask(*start, *later)
         for name, (least, greatest) in RANGES.items():
             for number in (least - 1, greatest + 1):
@@ -65,9 +65,9 @@ class LayState(unittest.TestCase):
 
     def test_a_second_lay_forgets_all_that_was_before(self):
         first = [lay(n=3, tol=0, p=2, q=2, rate=1), sample(5, 5, 900), sample(9, 9, 900), sample(9, None, 9),
-                 sample(None, None, None)]
+                 bar(0), bar(1), free(1), sample(None, None, None), sample(None, 4, None)]
         second = [lay(n=5, tol=1, p=3, q=1, rate=2)]
-        later = look(5) + [sample(100, 100, 101, 102, None)] + look(5)
+        later = look_at_all(5) + [sample(100, 100, 101, 102, None)] + look_at_all(5)
         self.assertEqual(ask(*first, *second, *later)[len(first):], ask(*second, *later))
 
     def test_a_second_lay_may_have_fewer_sensors(self):

@@ -1,8 +1,8 @@
-"""Promise 4, of it: value, sensor and trusted."""
+"""Promise 4, of it: value, sensor and trusted. (Of totals and log: test_log.py.)"""
 
 import unittest
 
-from tests.lines import SILENT, ask, last, lay, look, sample, sensor, trusted, value
+from tests.lines import SILENT, ask, bar, last, lay, look, look_at_all, sample, sensor, trusted, value
 
 FAR = 10 ** 18
 NONE = (SILENT, SILENT, SILENT)
@@ -46,7 +46,7 @@ class OneSensor(unittest.TestCase):
 
     def test_a_refusal_changes_nothing(self):
         start = [lay(tol=0, p=2, q=2), sample(0, 0, 1)]
-        later = look(3) + [sample(0, 0, 1)] + look(3)
+        later = look_at_all(3) + [sample(0, 0, 1)] + look_at_all(3)
         told = ask(*start, sensor(-1), sensor(3), *later)
         self.assertEqual(told[2:4], [[-1], [-1]])
         self.assertEqual(told[4:], ask(*start, *later)[2:])
@@ -67,10 +67,14 @@ class Trusted(unittest.TestCase):
     def test_none(self):
         self.assertEqual(last(lay(p=1), sample(*NONE), trusted()), [0])
 
+    def test_barred_ones_are_left_out(self):
+        told = ask(lay(n=4), bar(2), trusted(), bar(0), trusted(), bar(1), bar(3), trusted())
+        self.assertEqual([told[k] for k in (2, 4, 7)], [[3, 0, 1, 3], [2, 1, 3], [0]])
+
     def test_asking_changes_nothing(self):
         start = [lay(tol=0, p=2, q=2), sample(0, 0, 1), sample(0, 0, 1), sample(*NONE)]
-        once = ask(*start, *look(3))[len(start):]
-        self.assertEqual(ask(*start, *look(3), *look(3))[len(start):], once + once)
+        once = ask(*start, *look_at_all(3))[len(start):]
+        self.assertEqual(ask(*start, *look_at_all(3), *look_at_all(3))[len(start):], once + once)
 
 
 if __name__ == "__main__":

@@ -1,4 +1,4 @@
-"""What a sample does that no call shows by itself: events, the count of samples, the last votes, barred ones."""
+"""The panel by itself: events, the count of samples, the last votes, barred ones, a panel's copy."""
 
 import unittest
 
@@ -80,7 +80,6 @@ class Barred(unittest.TestCase):
             sensor.barred = True
         self.assertEqual(take_sample(panel, [5, 5, 5]), [0, 0, 0, 0, 0, 0])
         self.assertEqual((panel.samples, panel.age, panel.events, panel.votes), (1, 1, [], []))
-
 
     def test_sensor_and_trusted_tell_it(self):
         panel = Panel(3, 0, 1, 1, 0)

@@ -3,7 +3,7 @@
 import itertools
 import unittest
 
-from tests.lines import SILENT, ask, last, lay, look, row, sample, sample_row, sensor, trusted, value
+from tests.lines import SILENT, ask, last, lay, look, look_at_all, row, sample, sample_row, sensor, trusted, value
 
 GREATEST = 10 ** 12
 FAR = 10 ** 18
@@ -40,7 +40,7 @@ class SampleRefusals(unittest.TestCase):
 
     def test_a_wrong_list_is_refused_and_nothing_is_changed(self):
         start = [lay(n=3, tol=2, p=2, q=2, rate=1), sample(0, 0, 50), sample(4, 4, 50), sample(4, 4, 4)]
-        later = look(3) + [sample(9, 9, 9), sample(SILENT, SILENT, 9)] + look(3)
+        later = look_at_all(3) + [sample(9, 9, 9), sample(SILENT, SILENT, 9)] + look_at_all(3)
         untouched = ask(*start, *later)
         for name, numbers in wrong_rows().items():
             with self.subTest(name):

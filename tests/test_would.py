@@ -2,7 +2,7 @@
 
 import unittest
 
-from tests.lines import SILENT, ask, lay, look, sample, sample_row, would, would_row
+from tests.lines import SILENT, ask, bar, free, lay, look_at_all, sample, sample_row, would, would_row
 from tests.test_sample import wrong_rows
 
 STARTS = {
@@ -10,6 +10,9 @@ STARTS = {
     "something put out": [lay(n=3, tol=0, p=2, q=2, rate=2), sample(1, 1, 9)],
     "one shut out": [lay(n=3, tol=0, p=2, q=2, rate=2), sample(1, 1, 9), sample(4, 4, 9)],
     "one shut out and near": [lay(n=3, tol=0, p=2, q=2, rate=2), sample(1, 1, 9), sample(4, 4, 9), sample(4, 4, 4)],
+    "one barred": [lay(n=3, tol=0, p=2, q=2, rate=2), sample(1, 1, 9), bar(2), sample(4, 4, 9)],
+    "one freed": [lay(n=3, tol=0, p=2, q=2, rate=2), sample(1, 1, 9), bar(0), free(0), sample(4, 4, 9)],
+    "all barred": [lay(n=3, tol=0, p=1, q=1, rate=2), sample(1, 1, 9), bar(0), bar(1), bar(2)],
     "none trusted": [lay(n=3, tol=0, p=1, q=2, rate=2), sample(SILENT, SILENT, SILENT)],
 }
 TRIED = [(4, 4, 4), (9, 9, 4), (4, 9, 30), (SILENT, SILENT, SILENT), (SILENT, SILENT, 9), (-50, -50, -50)]
@@ -34,7 +37,7 @@ class Would(unittest.TestCase):
         for name, start in STARTS.items():
             for readings in TRIED:
                 for following in TRIED:
-                    later = look(3) + [sample(*following)] + look(3)
+                    later = look_at_all(3) + [sample(*following)] + look_at_all(3)
                     with self.subTest(name, readings=readings, following=following):
                         told = ask(*start, would(*readings), would(*readings), *later)
                         self.assertEqual(told[len(start) + 2:], ask(*start, *later)[len(start):])
@@ -47,7 +50,7 @@ class Would(unittest.TestCase):
 
     def test_the_same_refusals_as_sample(self):
         start = STARTS["one shut out and near"]
-        later = look(3) + [sample(4, 4, 4)] + look(3)
+        later = look_at_all(3) + [sample(4, 4, 4)] + look_at_all(3)
         untouched = ask(*start, *later)[len(start):]
         for name, numbers in wrong_rows().items():
             with self.subTest(name):

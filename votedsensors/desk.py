@@ -1,6 +1,7 @@
 """The calls: read from one list of whole numbers, and answered in another."""
 
-from votedsensors.panel import Panel, copied, take_sample, told, trusted_numbers
+from votedsensors.panel import SHUT_OUT, TRUSTED_AGAIN, Panel, bar, copied, free, how_many_events
+from votedsensors.panel import samples_to_change, take_sample, told, trimmed_mean, trusted_numbers
 
 LAY = 0
 SAMPLE = 1
@@ -8,12 +9,24 @@ WOULD = 2
 VALUE = 3
 SENSOR = 4
 TRUSTED = 5
+BAR = 6
+FREE = 7
+SOONEST = 8
+TRIM = 9
+LOG = 10
+TOTALS = 11
 
 OUT_OF_RANGE = -1
 NOTHING_LAID = -2
+IS_BARRED = -3
+NOT_BARRED = -4
+TOO_FEW_VOTES = -5
 
 GREATEST_READING = 1000000000000
 GREATEST_STEP = 1000000000
+GREATEST_TRIM = 4
+GREATEST_EVENT = 100000
+EVENTS_AT_ONCE = 50
 
 
 class UnknownCall(ValueError):
@@ -68,16 +81,68 @@ def value(panel):
     return told(panel.last) + [panel.age] + told(panel.put_out)
 
 
-def sensor_state(panel, i):
+def sensor_state(sensor):
+    return [1 if sensor.trusted else 0, sensor.bad, sensor.good, 1 if sensor.barred else 0]
+
+
+def bar_sensor(panel, i):
+    if panel.sensors[i].barred:
+        return [IS_BARRED]
+    bar(panel, i)
+    return [1]
+
+
+def free_sensor(panel, i):
+    if not panel.sensors[i].barred:
+        return [NOT_BARRED]
+    free(panel, i)
+    return [1]
+
+
+def soonest(panel, i):
+    if panel.sensors[i].barred:
+        return [IS_BARRED]
+    return [samples_to_change(panel, i)]
+
+
+def answer_of_sensor(panel, call, i):
     if not 0 <= i < len(panel.sensors):
         return [OUT_OF_RANGE]
-    sensor = panel.sensors[i]
-    return [1 if sensor.trusted else 0, sensor.bad, sensor.good, 1 if sensor.barred else 0]
+    if call == SENSOR:
+        return sensor_state(panel.sensors[i])
+    if call == BAR:
+        return bar_sensor(panel, i)
+    if call == FREE:
+        return free_sensor(panel, i)
+    return soonest(panel, i)
 
 
 def trusted_list(panel):
     numbers = trusted_numbers(panel.sensors)
     return [len(numbers)] + numbers
+
+
+def trim(panel, f):
+    if not 0 <= f <= GREATEST_TRIM:
+        return [OUT_OF_RANGE]
+    if len(panel.votes) < 2 * f + 1:
+        return [TOO_FEW_VOTES]
+    return [0, trimmed_mean(panel.votes, f)]
+
+
+def log(panel, k):
+    if not 0 <= k <= GREATEST_EVENT:
+        return [OUT_OF_RANGE]
+    numbers = []
+    for event in panel.events[k:k + EVENTS_AT_ONCE]:
+        numbers.extend(event)
+    return [len(numbers)] + numbers
+
+
+def totals(panel):
+    shut_out = how_many_events(panel, SHUT_OUT)
+    trusted_again = how_many_events(panel, TRUSTED_AGAIN)
+    return [panel.samples, len(panel.events), shut_out, trusted_again]
 
 
 def answer_laid(panel, call, numbers):
@@ -87,9 +152,15 @@ def answer_laid(panel, call, numbers):
         return sample(copied(panel), numbers[1:])
     if call == VALUE:
         return value(panel)
-    if call == SENSOR:
-        return sensor_state(panel, numbers[0])
-    return trusted_list(panel)
+    if call == TRUSTED:
+        return trusted_list(panel)
+    if call == TRIM:
+        return trim(panel, numbers[0])
+    if call == LOG:
+        return log(panel, numbers[0])
+    if call == TOTALS:
+        return totals(panel)
+    return answer_of_sensor(panel, call, numbers[0])
 
 
 def answer_call(desk, call, numbers):
@@ -107,9 +178,9 @@ def numbers_behind(calls, at):
         return 5
     if call == SAMPLE or call == WOULD:
         return 1 + calls[at + 1]
-    if call == SENSOR:
+    if call in (SENSOR, BAR, FREE, SOONEST, TRIM, LOG):
         return 1
-    if call == VALUE or call == TRUSTED:
+    if call in (VALUE, TRUSTED, TOTALS):
         return 0
     raise UnknownCall(f"call {call} is not known")
 

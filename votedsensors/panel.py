@@ -1,4 +1,4 @@
-"""The sensors that were laid, and what a sample makes of them.
+"""The sensors that were laid, and what a sample, a bar or a free makes of them.
 
 A reading is a whole number, or None where the sensor is silent. A value that there may be none of
 (the voted value, the last value, what's put out) is None where there is none.
@@ -6,6 +6,8 @@ A reading is a whole number, or None where the sensor is silent. A value that th
 
 SHUT_OUT = 0
 TRUSTED_AGAIN = 1
+BARRED = 2
+FREED = 3
 
 
 class Sensor:
@@ -91,6 +93,17 @@ def is_near(reading, voted, tol):
     return abs(reading - voted) <= tol
 
 
+def begin_state(sensor, trusted):
+    """Makes a sensor trusted or shut out anew: whatever it counted before no longer matters."""
+    sensor.trusted = trusted
+    sensor.bad = 0
+    sensor.good = 0
+
+
+def write_event(panel, i, what):
+    panel.events.append((panel.samples, i, what))
+
+
 def judge(sensor, near, p, q):
     """Counts a sample for one sensor; gives SHUT_OUT or TRUSTED_AGAIN if it came to that, else None."""
     if sensor.trusted:
@@ -101,9 +114,7 @@ def judge(sensor, near, p, q):
         sensor.good = sensor.good + 1 if near else 0
         if sensor.good < q:
             return None
-    sensor.trusted = not sensor.trusted
-    sensor.bad = 0
-    sensor.good = 0
+    begin_state(sensor, not sensor.trusted)
     return TRUSTED_AGAIN if sensor.trusted else SHUT_OUT
 
 
@@ -111,7 +122,7 @@ def judge_all(panel, nears):
     for i in unbarred_numbers(panel.sensors):
         what = judge(panel.sensors[i], nears[i], panel.p, panel.q)
         if what is not None:
-            panel.events.append((panel.samples, i, what))
+            write_event(panel, i, what)
 
 
 def moved(put_out, voted, rate):
@@ -151,3 +162,34 @@ def take_sample(panel, readings):
     panel.votes = votes
     near_numbers = [i for i in unbarred_numbers(panel.sensors) if nears[i]]
     return told(voted) + told(panel.put_out) + [len(near_numbers), len(trusted_numbers(panel.sensors))]
+
+
+def bar(panel, i):
+    # The state and the counts are kept, so that what is known of the sensor stays to be seen.
+    panel.sensors[i].barred = True
+    write_event(panel, i, BARRED)
+
+
+def free(panel, i):
+    # A freed sensor has to earn its trust again, whatever its state was when it was barred.
+    panel.sensors[i].barred = False
+    begin_state(panel.sensors[i], False)
+    write_event(panel, i, FREED)
+
+
+def samples_to_change(panel, i):
+    """Behind how many samples a sensor that isn't barred can be shut out, or trusted again, at the earliest."""
+    sensor = panel.sensors[i]
+    if sensor.trusted:
+        return panel.p - sensor.bad
+    return panel.q - sensor.good
+
+
+def trimmed_mean(numbers, f):
+    """The mean, rounded down, without the f least and the f greatest; there are more than 2 f numbers."""
+    left = sorted(numbers)[f:len(numbers) - f]
+    return sum(left) // len(left)
+
+
+def how_many_events(panel, what):
+    return len([event for event in panel.events if event[2] == what])
